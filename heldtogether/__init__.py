@@ -1,0 +1,1 @@
+"""Answers that hold together: the right answers in a disputation by rules."""
