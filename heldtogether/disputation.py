@@ -12,6 +12,7 @@ DOES_NOT_MATTER = 0
 FOLLOWS = 1
 IS_AGAINST = 2
 
+NO_SUCH_LETTER = -2
 NOTHING_THERE = -6
 NOT_BEGUN = -11
 ALREADY_LAID = -17
@@ -19,12 +20,16 @@ NOT_RIGHT = -22
 TOO_MANY = -28
 CANNOT_BE = -33
 
+HIGHEST_ANSWER = 2
 MOST_LETTERS = 3
 MOST_PROPOSED = 20
 LONGEST_ROW = 16
 
 # How many propositions there are with 0, 1, 2 and 3 letters; before a begin there is none.
 PROPOSITIONS = (0, 4, 16, 256)
+
+# For each of three letters the worlds in which it's so; with fewer letters there are but the first of the worlds.
+WORLDS_OF_LETTERS = (170, 204, 240)
 
 
 def how_many_worlds(worlds):
@@ -88,12 +93,23 @@ class Disputation:
     def is_proposition(self, p):
         return p < PROPOSITIONS[self.letters]
 
+    def are_propositions(self, p, q):
+        return self.is_proposition(p) and self.is_proposition(q)
+
+    def all_worlds(self):
+        return PROPOSITIONS[self.letters] - 1
+
     def standing(self):
         # Gone through anew from the answers that were given: these stay, whatever is learnt.
         worlds = self.laid
         for p, answer in self.proposed:
             worlds = narrowed(worlds, p, answer)
         return worlds
+
+    def right_answers(self):
+        """What would be answered now to each of all propositions, rising."""
+        standing = self.standing()
+        return [right_answer(standing, self.known, p) for p in range(PROPOSITIONS[self.letters])]
 
     def how_many_proposed(self, answer, by_known):
         """How many were answered so, while what is known now gives the answer by_known."""
@@ -210,3 +226,62 @@ class Disputation:
             told.append(p)
             told.append(answer)
         return told
+
+    def counts(self):
+        if self.laid == 0:
+            return [NOTHING_THERE]
+        given = self.right_answers()
+        return [given.count(CONCEDED), given.count(DENIED), given.count(DOUBTED)]
+
+    def nth(self, answer, which):
+        if answer > HIGHEST_ANSWER:
+            return [NOT_RIGHT]
+        if self.laid == 0:
+            return [NOTHING_THERE]
+        found = [p for p, given in enumerate(self.right_answers()) if given == answer]
+        if which >= len(found):
+            return [CANNOT_BE]
+        return [found[which]]
+
+    def truth(self, p):
+        if not self.is_proposition(p):
+            return [NOT_RIGHT]
+        return [verdict(self.known, p)]
+
+    def letter(self, i):
+        if i >= self.letters:
+            return [NO_SUCH_LETTER]
+        return [WORLDS_OF_LETTERS[i] & self.all_worlds()]
+
+    def not_of(self, p):
+        if not self.is_proposition(p):
+            return [NOT_RIGHT]
+        return [self.all_worlds() - p]
+
+    def both(self, p, q):
+        if not self.are_propositions(p, q):
+            return [NOT_RIGHT]
+        return [p & q]
+
+    def either(self, p, q):
+        if not self.are_propositions(p, q):
+            return [NOT_RIGHT]
+        return [p | q]
+
+    def if_then(self, p, q):
+        if not self.are_propositions(p, q):
+            return [NOT_RIGHT]
+        return [(self.all_worlds() - p) | q]
+
+    def follows(self, p, q):
+        """Whether q follows of p."""
+        if not self.are_propositions(p, q):
+            return [NOT_RIGHT]
+        if p & q == p:
+            return [1]
+        return [0]
+
+    def state(self):
+        if self.laid == 0:
+            return [self.letters, self.known]
+        return [self.letters, self.known, self.laid, len(self.proposed)]

@@ -2,6 +2,7 @@
 
 from heldtogether.disputation import NOT_BEGUN, Disputation
 
+# The numbers of the calls; state, the last one, is what is left when it's none of these.
 BEGIN = 0
 LAY = 1
 PROPOSE = 2
@@ -13,9 +14,17 @@ ROW = 7
 STANDS = 8
 MATTERS = 9
 LOG = 10
+COUNTS = 11
+NTH = 12
+TRUTH = 13
+LETTER = 14
+NOT_OF = 15
+BOTH = 16
+EITHER = 17
+IF_THEN = 18
+FOLLOWS = 19
 
 # How many whole numbers stand behind each call's number. A row tells it by itself.
-# The calls that are not written yet are here too: before a begin they answer as well.
 HOW_MANY_GIVEN = (2, 1, 1, 0, 0, 1, 1, 0, 0, 1, 0, 0, 2, 1, 1, 1, 2, 2, 2, 2, 0)
 
 
@@ -32,7 +41,7 @@ def how_many_given(calls, at):
     return HOW_MANY_GIVEN[calls[at]]
 
 
-def answer_once_begun(held, call, given):
+def answer_what_changes(held, call, given):
     if call == LAY:
         return held.lay(given[0])
     if call == PROPOSE:
@@ -41,8 +50,11 @@ def answer_once_begun(held, call, given):
         return held.back()
     if call == FINISH:
         return held.finish()
-    if call == LEARN:
-        return held.learn(given[0])
+    return held.learn(given[0])
+
+
+def answer_what_is_asked(held, call, given):
+    """The calls about what was laid down and proposed."""
     if call == ANSWER:
         return held.answer(given[0])
     if call == ROW:
@@ -53,7 +65,28 @@ def answer_once_begun(held, call, given):
         return held.matters(given[0])
     if call == LOG:
         return held.log()
-    raise NotImplementedError("this call is not written yet")
+    if call == COUNTS:
+        return held.counts()
+    return held.nth(given[0], given[1])
+
+
+def answer_without_laying(held, call, given):
+    """The calls for which nothing need be laid down."""
+    if call == TRUTH:
+        return held.truth(given[0])
+    if call == LETTER:
+        return held.letter(given[0])
+    if call == NOT_OF:
+        return held.not_of(given[0])
+    if call == BOTH:
+        return held.both(given[0], given[1])
+    if call == EITHER:
+        return held.either(given[0], given[1])
+    if call == IF_THEN:
+        return held.if_then(given[0], given[1])
+    if call == FOLLOWS:
+        return held.follows(given[0], given[1])
+    return held.state()
 
 
 def answer_call(held, call, given):
@@ -61,7 +94,11 @@ def answer_call(held, call, given):
         return held.begin(given[0], given[1])
     if not held.has_begun():
         return [NOT_BEGUN]
-    return answer_once_begun(held, call, given)
+    if call <= LEARN:
+        return answer_what_changes(held, call, given)
+    if call <= NTH:
+        return answer_what_is_asked(held, call, given)
+    return answer_without_laying(held, call, given)
 
 
 def answers(calls):

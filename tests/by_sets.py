@@ -11,8 +11,10 @@ def number_of(worlds):
 
 class BySets:
     def __init__(self):
+        self.letters = 0
         self.everything = None
         self.known = None
+        # What stood at first, and after each that was proposed.
         self.stack = []
         self.log = []
 
@@ -45,13 +47,15 @@ class BySets:
         if self.everything is None:
             return [-11]
         names = {1: self.lay, 2: self.propose, 3: self.back, 4: self.finish, 5: self.learn, 6: self.answer,
-                 7: self.row, 8: self.stands, 9: self.matters, 10: self.told}
+                 7: self.row, 8: self.stands, 9: self.matters, 10: self.told, 11: self.counts, 12: self.nth,
+                 13: self.truth, 14: self.letter, 15: self.not_of, 16: self.both, 17: self.either, 18: self.if_then,
+                 19: self.follows, 20: self.state}
         return names[number](*(given[1:] if number == 7 else given))
 
     def begin(self, m, k):
         if m not in (1, 2, 3) or not 0 < k < 2 ** 2 ** m:
             return [-22]
-        self.everything = frozenset(range(2 ** m))
+        self.letters, self.everything = m, frozenset(range(2 ** m))
         self.known, self.stack, self.log = worlds_of(k), [], []
         return [len(self.known)]
 
@@ -125,6 +129,57 @@ class BySets:
 
     def told(self):
         return [len(self.log)] + [number for pair in self.log for number in pair]
+
+    def answered(self, a):
+        return [p for p in range(2 ** len(self.everything)) if self.judged(p)[0] == a]
+
+    def counts(self):
+        return [len(self.answered(a)) for a in (1, 0, 2)] if self.stack else [-6]
+
+    def nth(self, a, k):
+        if a not in (0, 1, 2):
+            return [-22]
+        if not self.stack:
+            return [-6]
+        return self.answered(a)[k:k + 1] or [-33]
+
+    def truth(self, p):
+        if self.isnt_right([p]):
+            return [-22]
+        return [{(True,): 1, (False,): 0}.get(tuple({w in worlds_of(p) for w in self.known}), 2)]
+
+    def letter(self, i):
+        if i not in range(self.letters):
+            return [-2]
+        return [number_of(w for w in self.everything if w // 2 ** i % 2 == 1)]
+
+    def made(self, given, keep):
+        """The proposition that is so in just those worlds in which keep holds of what's given."""
+        if self.isnt_right(given):
+            return [-22]
+        sets = [worlds_of(p) for p in given]
+        return [number_of(w for w in self.everything if keep(*[w in one for one in sets]))]
+
+    def not_of(self, p):
+        return self.made([p], lambda in_p: not in_p)
+
+    def both(self, p, q):
+        return self.made([p, q], lambda in_p, in_q: in_p and in_q)
+
+    def either(self, p, q):
+        return self.made([p, q], lambda in_p, in_q: in_p or in_q)
+
+    def if_then(self, p, q):
+        return self.made([p, q], lambda in_p, in_q: in_q if in_p else True)
+
+    def follows(self, p, q):
+        if self.isnt_right([p, q]):
+            return [-22]
+        return [1 if worlds_of(p) <= worlds_of(q) else 0]
+
+    def state(self):
+        laid = [number_of(self.stack[0]), len(self.log)] if self.stack else []
+        return [self.letters, number_of(self.known)] + laid
 
 
 def answers_by_sets(calls):

@@ -47,7 +47,48 @@ def log():
     return [10]
 
 
-LATER_CALLS = ([11], [12, 0, 0], [13, 1], [14, 0], [15, 1], [16, 1, 1], [17, 1, 1], [18, 1, 1], [19, 1, 1], [20])
+def counts():
+    return [11]
+
+
+def nth(a, k):
+    return [12, a, k]
+
+
+def truth(p):
+    return [13, p]
+
+
+def letter(i):
+    return [14, i]
+
+
+def not_of(p):
+    return [15, p]
+
+
+def both(p, q):
+    return [16, p, q]
+
+
+def either(p, q):
+    return [17, p, q]
+
+
+def if_then(p, q):
+    return [18, p, q]
+
+
+def follows(p, q):
+    return [19, p, q]
+
+
+def state():
+    return [20]
+
+
+# All by which the object can be looked at without a number that one must choose.
+LOOK = (state(), stands(), log(), counts())
 
 
 def line(*calls):
@@ -81,3 +122,24 @@ def last(*calls):
 def last_parts(before, *calls):
     """The answers to the calls alone, without those to the line that stands before them."""
     return taken_apart(answers(before + line(*calls)))[-len(calls):]
+
+
+def each_by_itself(before, calls):
+    """The answers to the calls, in as many lines as it takes: a line has at most 60 calls."""
+    parts = []
+    for at in range(0, len(calls), 20):
+        parts += last_parts(before, *calls[at:at + 20])
+    return parts
+
+
+def all_answered(before, a):
+    """All propositions that nth tells, from 0 up to where there is none."""
+    found = []
+    while True:
+        told = each_by_itself(before, [nth(a, k) for k in range(len(found), len(found) + 20)])
+        good = [part[0] for part in told if part != [-33]]
+        if told != [[p] for p in good] + [[-33]] * (20 - len(good)):
+            raise AssertionError(f"there is none, and then one: {told}")
+        found += good
+        if len(good) < 20:
+            return found
